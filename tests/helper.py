@@ -57,6 +57,38 @@ def starts(word):
     return [8] + row(word)
 
 
+def ends(word):
+    return [9] + row(word)
+
+
+def sections():
+    return [10]
+
+
+def rhymes():
+    return [11]
+
+
+def follow(place):
+    return [12, place]
+
+
+def above(place, sense):
+    return [13, place, sense]
+
+
+def common(place, sense, other_place, other_sense):
+    return [14, place, sense, other_place, other_sense]
+
+
+def faults():
+    return [15]
+
+
+def join(text):
+    return [16] + row(text)
+
+
 def counted(text):
     """A text as it is answered: its length, then its signs."""
     return row(text)

@@ -2,11 +2,14 @@
 
 import unittest
 
-from helper import ask, begins, entry, find, key, letters, order, read, said, starts
+from helper import (above, ask, begins, common, ends, entry, faults, find, follow, join, key, letters, order, read,
+                    rhymes, said, sections, starts)
 from wordhouse.dictionary import answers
 
-ONE_OF_EACH = (letters("a b/x ch", "-", 1) + read("= ch\n- x\n> like b\n= b\n> see ch\n") + key("b-ch") + order("a", "b")
-               + said() + entry(1) + find("ch") + starts("b") + begins())
+ONE_OF_EACH = (letters("a b/x ch", "-", 1) + read("= ch\n- x\n> like b\n> under a\n= b\n> see ch\n= a\n- y\n")
+               + key("b-ch") + order("a", "b") + said() + entry(1) + find("ch") + starts("b") + ends("ch") + sections()
+               + rhymes() + follow(1) + above(2, 1) + common(2, 1, 0, 1) + faults() + join("= a\n- z\n= ch\n- x\n")
+               + said() + begins())
 
 
 class AnswersTest(unittest.TestCase):
@@ -18,12 +21,28 @@ class AnswersTest(unittest.TestCase):
         self.assertEqual(answers([4, 4, 61, 32, 97, 10, 5, 6, 0, 7, 1, 97, 8, 0]),
                          [1, 1, 5, 4, 61, 32, 97, 10, 5, 4, 61, 32, 97, 10, 2, 1, 0, 2, 1, 0])
 
+    def test_the_calls_from_9_on(self):
+        self.assertEqual(answers([9, 1, 97, 10, 11, 12, 0, 13, 0, 1, 14, 0, 1, 0, 1, 15, 16, 4, 61, 32, 97, 10]),
+                         [1, 0, 1, 0, 1, 0, 1, -6, 1, -6, 1, -6, 1, 0, 1, 1])
+        text = "= a\n- x\n> under b\n= b\n- y\n= c\n> see a\n> see c .1\n"
+        self.assertEqual(answers(read(text) + [9, 1, 98, 10, 11, 12, 2, 13, 0, 1, 14, 0, 1, 1, 1, 15, 16, 0, 12, 2]),
+                         [1, 3, 2, 1, 1, 7, 3, 97, 1, 98, 1, 99, 1, 4, 3, 0, 1, 2, 3, 0, 0, 1, 4, 1, 1, 1, 1,
+                          5, 0, 1, 1, 1, 0, 5, 1, 1, 2, 0, 1, 1, 3, 3, 0, 0, 1])
+
     def test_refusals_are_their_number_alone_but_for_3(self):
         self.assertEqual(answers([2, 1, 0]), [1, -1])
         self.assertEqual(answers([6, 0]), [1, -6])
         self.assertEqual(answers([1, 0, 1, 97, 1, 97]), [1, -4])
         self.assertEqual(answers([1, 0, 0, 0]), [2, -3, 0])
         self.assertEqual(answers([4, 3, 61, 32, 97]), [3, -3, 1, 3])
+        self.assertEqual(answers([9, 1, 0]), [1, -1])
+        self.assertEqual(answers([16, 1, 0]), [1, -1])
+        self.assertEqual(answers([16, 3, 61, 32, 97]), [3, -3, 1, 3])
+        self.assertEqual(answers(read("= a\n- x\n= b\n> see b\n= c\n= d\n- x\n") + follow(1) + follow(2) + follow(9)
+                                 + above(1, 1) + common(0, 1, 3, 1) + common(0, 1, 1, 1)),
+                         [1, 4, 1, -4, 1, -5, 1, -6, 1, -6, 1, -5, 1, -6])
+        self.assertEqual(answers(read("".join("= %d\n" % number for number in range(300))) + join("= x\n")),
+                         [1, 300, 1, -7])
 
     def test_calls_go_on_behind_a_refusal(self):
         self.assertEqual(ask(key([0]), letters(""), read("x"), entry(5), key("a"), order([0], ""), order("", "")),

@@ -1,16 +1,27 @@
 """The calls, one behind another, on one new dictionary."""
 
-from wordhouse.house import House, count_before, count_of_head, places_that_start, settle
+from wordhouse.house import (
+    House, count_before, count_by_first_rank, count_of_head, has_entry, has_sense, places_by_rhyme, places_that_end,
+    places_that_start, settle
+)
+from wordhouse.joining import is_too_large, join_entries
+from wordhouse.leading import place_onward, way_from
 from wordhouse.letters import Letters, letters_fault, passes_over_a_form, read_letters
 from wordhouse.reading import read_text
 from wordhouse.saying import say_entries, say_entry
 from wordhouse.signs import are_signs, is_text, is_word
+from wordhouse.steps import nearest_above_both, senses_above
 from wordhouse.words import compare_words, word_key
+from wordhouse.wrong import wrong_pointers
 
 NO_SIGNS = -1
 FAULTY = -3
 PASSED_FORM = -4
+LEADS_ROUND = -4
+LEADS_NOWHERE = -5
+NONE_ABOVE_BOTH = -5
 NOT_THERE = -6
+TOO_LARGE = -7
 
 
 def answer_begins(house, numbers, rows):
@@ -69,7 +80,7 @@ def answer_said(house, numbers, rows):
 
 def answer_entry(house, numbers, rows):
     """The lines of the entry at a place."""
-    if numbers[0] >= len(house.entries):
+    if not has_entry(house, numbers[0]):
         return [NOT_THERE]
     lines = say_entry(house.entries[numbers[0]])
     return [len(lines)] + lines
@@ -90,6 +101,87 @@ def answer_starts(house, numbers, rows):
     return [len(places)] + places
 
 
+def answer_ends(house, numbers, rows):
+    """The places of the entries that end with the word's ranks."""
+    if not is_word(rows[0]):
+        return [NO_SIGNS]
+    places = places_that_end(house, word_key(house.letters, rows[0]).ranks)
+    return [len(places)] + places
+
+
+def answer_sections(house, numbers, rows):
+    """The ranks that entries begin with, and how many with each."""
+    counts = count_by_first_rank(house)
+    return [len(counts)] + in_one_row([(rank, counts[rank]) for rank in counts])
+
+
+def answer_rhymes(house, numbers, rows):
+    """The places of all entries by their ranks from the last on."""
+    places = places_by_rhyme(house)
+    return [len(places)] + places
+
+
+def answer_follow(house, numbers, rows):
+    """The place that an entry, followed, comes to, and behind how many pointers."""
+    if not has_entry(house, numbers[0]):
+        return [NOT_THERE]
+    way = way_from(house, numbers[0])
+    # A way that ends though it still leads on has come to one of its own places.
+    if place_onward(house, way[-1]) is not None:
+        return [LEADS_ROUND]
+    if len(house.entries[way[-1]].senses) == 0:
+        return [LEADS_NOWHERE]
+    return [0, way[-1], len(way) - 1]
+
+
+def answer_above(house, numbers, rows):
+    """The senses above one, and how many steps they are from it."""
+    if not has_sense(house, numbers[0], numbers[1]):
+        return [NOT_THERE]
+    above = senses_above(house, (numbers[0], numbers[1]))
+    return [len(above)] + in_one_row([(place, number, steps) for steps, place, number in above])
+
+
+def answer_common(house, numbers, rows):
+    """The nearest sense above two, or one of them, and how many steps it is from each."""
+    if not has_sense(house, numbers[0], numbers[1]) or not has_sense(house, numbers[2], numbers[3]):
+        return [NOT_THERE]
+    nearest = nearest_above_both(house, (numbers[0], numbers[1]), (numbers[2], numbers[3]))
+    if nearest is None:
+        return [NONE_ABOVE_BOTH]
+    return [0] + list(nearest)
+
+
+def answer_faults(house, numbers, rows):
+    """The wrong pointers, and how each is wrong."""
+    wrong = wrong_pointers(house)
+    return [len(wrong)] + in_one_row(wrong)
+
+
+def answer_join(house, numbers, rows):
+    """Let the entries be those joined with the text's."""
+    if not is_text(rows[0]):
+        return [NO_SIGNS]
+    reading = read_text(rows[0])
+    if reading.fault is not None:
+        return [FAULTY] + list(reading.fault)
+    second = House()
+    settle(second, house.letters, reading.entries)
+    joined = join_entries(house, second)
+    if is_too_large(joined):
+        return [TOO_LARGE]
+    settle(house, house.letters, joined)
+    return [len(joined)]
+
+
+def in_one_row(groups):
+    """The numbers of the groups, one behind another."""
+    row = []
+    for group in groups:
+        row.extend(group)
+    return row
+
+
 # How many whole numbers and how many rows stand behind a call's number.
 SHAPES = {
     0: (0, 0),
@@ -101,6 +193,14 @@ SHAPES = {
     6: (1, 0),
     7: (0, 1),
     8: (0, 1),
+    9: (0, 1),
+    10: (0, 0),
+    11: (0, 0),
+    12: (1, 0),
+    13: (2, 0),
+    14: (4, 0),
+    15: (0, 0),
+    16: (0, 1),
 }
 
 CALLS = {
@@ -113,6 +213,14 @@ CALLS = {
     6: answer_entry,
     7: answer_find,
     8: answer_starts,
+    9: answer_ends,
+    10: answer_sections,
+    11: answer_rhymes,
+    12: answer_follow,
+    13: answer_above,
+    14: answer_common,
+    15: answer_faults,
+    16: answer_join,
 }
 
 

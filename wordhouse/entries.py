@@ -2,6 +2,9 @@
 
 KINDS = ("see", "like", "unlike", "under", "part")
 SEE = 0
+LIKE = 1
+UNLIKE = 2
+UNDER = 3
 
 LONGEST_HEAD = 40
 LONGEST_SENSE = 200
